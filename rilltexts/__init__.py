@@ -1,0 +1,1 @@
+"""Rill: texts. The calls are in rilltexts.programs."""

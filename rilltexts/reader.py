@@ -1,0 +1,125 @@
+"""Reads a text's tokens by the grammar, up to the text's end or the first fault."""
+
+from rilltexts.alphabet import KEPT_WORDS
+from rilltexts.alphabet import SIGNS
+from rilltexts.grammar import ways_by_token
+from rilltexts.scanner import KEPT
+from rilltexts.scanner import NAME
+from rilltexts.scanner import NUMBER
+from rilltexts.scanner import SIGN
+
+NOT_A_TOKEN = 1
+CANT_STAND = 2
+TOO_DEEP = 3
+TOO_MANY = 4
+
+MOST_DECLARATIONS = 4096
+DEEPEST = 128
+RULES_THAT_COUNT_AS_DEEP = ("E", "ONE", "ATOM", "SIZE")
+
+
+class Frame:
+    """What is still to come: in which form, how many of it may still come, and in how many others it stands."""
+
+    def __init__(self, form, symbol, room, depth):
+        self.form = form
+        self.symbol = symbol
+        self.room = room
+        self.depth = depth
+
+
+class Reading:
+    """How far a text is read. What is still to come is a list of frames, the next one last, so that what is
+    nested in the text is not nested in calls."""
+
+    def __init__(self, symbols):
+        self.symbols = symbols
+        self.ways = ways_by_token()
+        self.at = 0
+        self.fault = 0
+        self.declarations = 0
+        self.frames = [Frame("once", "finish", 1, 0), Frame("many", "DECL", MOST_DECLARATIONS, 0)]
+
+
+def symbol_of(token):
+    """What the grammar calls a token; "nothing" is in no rule."""
+    if token.what == NAME:
+        return "name"
+    if token.what == NUMBER:
+        return "number"
+    if token.what == KEPT:
+        return KEPT_WORDS[token.which]
+    if token.what == SIGN:
+        return SIGNS[token.which]
+    return "nothing"
+
+
+def can_begin(reading, symbol, token):
+    return symbol == token or (symbol, token) in reading.ways
+
+
+def fault_of(reading, frame, token):
+    """Which fault it is that the token begins what the frame asks for; of several the least."""
+    if not can_begin(reading, frame.symbol, token):
+        return CANT_STAND
+    if frame.symbol in RULES_THAT_COUNT_AS_DEEP and frame.depth > DEEPEST:
+        return TOO_DEEP
+    if frame.room < 1:
+        return TOO_MANY
+    return 0
+
+
+def push_way(reading, frame, token):
+    depth = frame.depth
+    if frame.symbol in RULES_THAT_COUNT_AS_DEEP:
+        depth += 1
+    way = reading.ways[(frame.symbol, token)]
+    for part in reversed(way):
+        reading.frames.append(Frame(part[0], part[1], part[2], depth))
+
+
+def push_one_and_others(reading, frame):
+    """One of what the frame asks for, and behind it the frame again with room for one less."""
+    reading.frames.append(Frame(frame.form, frame.symbol, frame.room - 1, frame.depth))
+    reading.frames.append(Frame("once", frame.symbol, frame.room, frame.depth))
+
+
+def read_once(reading, frame, token):
+    reading.fault = fault_of(reading, frame, token)
+    if reading.fault > 0:
+        return
+    if frame.symbol == "DECL":
+        reading.declarations += 1
+    if frame.symbol == token:
+        reading.at += 1
+    else:
+        push_way(reading, frame, token)
+
+
+def step(reading):
+    frame = reading.frames.pop()
+    token = reading.symbols[reading.at]
+    if token == "nothing":
+        reading.fault = NOT_A_TOKEN
+    elif frame.form == "once":
+        read_once(reading, frame, token)
+    elif frame.form == "more":
+        if token == ",":
+            reading.at += 1
+            push_one_and_others(reading, frame)
+    elif can_begin(reading, frame.symbol, token):
+        if frame.form == "many":
+            push_one_and_others(reading, frame)
+        else:
+            reading.frames.append(Frame("once", frame.symbol, frame.room, frame.depth))
+
+
+def read_program(found):
+    """Reads tokens as a program; the reading tells how many declarations there are, or the fault and at which token
+    it is (behind the last one if the text ends too soon)."""
+    symbols = [symbol_of(token) for token in found]
+    symbols.append("finish")
+    reading = Reading(symbols)
+    while reading.fault == 0 and reading.frames:
+        step(reading)
+    return reading

@@ -1,0 +1,172 @@
+"""What the tests share: texts as lists of bytes, and a slow reading of them straight from the document's grammar.
+
+The slow reading knows nothing of how the program reads: it keeps every way in which the grammar's words can go on,
+and looks which of them take the next token. It knows the faults 1, 2 and 3, not the counts of fault 4.
+"""
+
+import re
+
+KEPT_WORDS = ("abs at const delay fn graph held let max min node round row sheet state sum table wrapped"
+              " u8 s8 u16 s16 u32 s32 u64 s64").split()
+SIGNS = "-> << >> <= >= == != && || + - * / % & | ^ ~ ! < > = ? : ; , @ ( ) [ ] { }".split()
+
+GRAMMAR = r'''
+program = { decl }
+decl  = "const" name "=" e ";" | "table" name ":" code "=" "[" e { "," e } "]" ";" | "fn" name "(" name { "," name } ")" "=" e ";" | "node" name "(" port { "," port } ")" "->" "(" port { "," port } ")" "{" { state } { do } "}" | "graph" name "(" end { "," end } ")" "->" "(" end { "," end } ")" "{" { wire } "}"
+code  = "u8" | "s8" | "u16" | "s16" | "u32" | "s32" | "u64" | "s64"
+kind  = code [ "[" e [ "," e ] "]" ]
+port  = name ":" kind [ "/" size ]
+end   = name ":" kind "at" size [ "/" size ]
+state = "state" name ":" kind "=" e ";"
+do    = "let" name "=" e ";" | name [ "[" e "]" ] "=" e ";"
+wire  = name { "," name } "=" name "(" name { "," name } ")" ";" | name "=" "delay" size "(" e ")" "(" name ")" ";" | name "=" name ";"
+size  = number | name | "(" e ")"
+e     = or [ "?" e ":" e ] | ( "sum" | "row" ) name "<" size ":" e | "sheet" name "," name "<" size "," size ":" e
+or    = and { "||" and }
+and   = cmp { "&&" cmp }
+cmp   = bor [ ( "<" | "<=" | "==" | "!=" | ">" | ">=" ) bor ]
+bor   = bxor { "|" bxor }
+bxor  = band { "^" band }
+band = shift { "&" shift }
+shift = add { ( "<<" | ">>" ) add }
+add   = mul { ( "+" | "-" ) mul }
+mul   = one { ( "*" | "/" | "%" ) one }
+one   = ( "-" | "~" | "!" ) one | post
+post  = atom { "[" e [ "," e ] "]" | "@" size }
+atom  = number | name | name "(" e { "," e } ")" | "(" e ")" | ( "held" | "wrapped" ) code "(" e ")" | "round" "(" e "," e ")" | "abs" "(" e ")" | ( "min" | "max" ) "(" e "," e ")"
+'''
+
+
+def text(words):
+    """The bytes of a text written in Latin 1."""
+    return list(words.encode("latin-1"))
+
+
+def number_of_token(word):
+    """What and which, as `tokens` answers them, of one right token."""
+    if word in KEPT_WORDS:
+        return [2, KEPT_WORDS.index(word)]
+    if word in SIGNS:
+        return [3, SIGNS.index(word)]
+    return [1, 0] if word[0].isdigit() else [0, 0]
+
+
+def spaced(words):
+    """The text of tokens with one blank between, and where each begins; the text's length last."""
+    places = []
+    length = 0
+    for word in words:
+        places.append(length)
+        length += len(word) + 1
+    written = " ".join(words)
+    return text(written), places + [len(written)]
+
+
+# --- the grammar's words as trees: ("alt", ..), ("seq", ..), ("rep", x), ("opt", x), ("rule", n), ("token", s)
+
+def read_alternatives(pieces):
+    ways = [read_sequence(pieces)]
+    while pieces and pieces[0] == "|":
+        pieces.pop(0)
+        ways.append(read_sequence(pieces))
+    return ways[0] if len(ways) == 1 else ("alt",) + tuple(ways)
+
+
+def read_sequence(pieces):
+    parts = []
+    while pieces and pieces[0] not in ("|", ")", "]", "}"):
+        piece = pieces.pop(0)
+        if piece in ("(", "[", "{"):
+            inner = read_alternatives(pieces)
+            pieces.pop(0)
+            parts.append({"(": inner, "[": ("opt", inner), "{": ("rep", inner)}[piece])
+        elif piece[0] == '"':
+            parts.append(("token", piece[1:-1]))
+        elif piece in ("name", "number"):
+            parts.append(("token", piece))
+        else:
+            parts.append(("rule", piece))
+    return ("seq",) + tuple(parts)
+
+
+def read_grammar():
+    rules = {}
+    for line in GRAMMAR.strip().split("\n"):
+        name, body = line.split("=", 1)
+        rules[name.strip()] = read_alternatives(re.findall(r'"[^"]*"|[^\s"]+', body))
+    return rules
+
+
+RULES = read_grammar()
+DEEP_RULES = ("e", "one", "atom", "size")
+BEGINNING = frozenset([((("rule", "program"), 0), None)])
+
+
+def expand(stack, deep, found):
+    """Goes on from a stack to every token that may come next: (token, the stack behind it, whether too deep)."""
+    if stack is None:
+        found.add(("finish", None, deep))
+        return
+    (node, depth), rest = stack
+    form = node[0]
+    if form == "token":
+        found.add((node[1], rest, deep))
+    elif form == "rule":
+        inside = depth
+        if node[1] in DEEP_RULES:
+            deep = deep or depth > 128
+            inside = depth + 1
+        expand(((RULES[node[1]], inside), rest), deep, found)
+    elif form == "seq":
+        for part in reversed(node[1:]):
+            rest = ((part, depth), rest)
+        expand(rest, deep, found)
+    elif form == "alt":
+        for way in node[1:]:
+            expand(((way, depth), rest), deep, found)
+    else:
+        expand(rest, deep, found)
+        again = rest if form == "opt" else (((node, depth), rest))
+        expand(((node[1], depth), again), deep, found)
+
+
+def can_come(stacks):
+    found = set()
+    for stack in stacks:
+        expand(stack, False, found)
+    return found
+
+
+def grammars_word(word):
+    if word in KEPT_WORDS or word in SIGNS or word == "finish":
+        return word
+    if re.fullmatch(r"[A-Za-z_][A-Za-z0-9_]{0,31}", word):
+        return "name"
+    return "number" if word.isdigit() else "no token"
+
+
+def go_on(coming, word):
+    """The stacks behind a token, or the fault's kind."""
+    word = grammars_word(word)
+    if word == "no token":
+        return 1
+    takers = [taker for taker in coming if taker[0] == word]
+    if not takers:
+        return 2
+    right = frozenset(taker[1] for taker in takers if not taker[2])
+    return right if right else 3
+
+
+def slow_judge(words):
+    """Judges a row of tokens: what `judge` answers to them with one blank between."""
+    return slow_judge_from(BEGINNING, words, 0)
+
+
+def slow_judge_from(stacks, words, at):
+    places = spaced(words)[1]
+    declared = sum(word in ("const", "table", "fn", "node", "graph") for word in words)
+    for place in range(at, len(words) + 1):
+        stacks = go_on(can_come(stacks), words[place] if place < len(words) else "finish")
+        if isinstance(stacks, int):
+            return [-2, stacks, places[place]]
+    return [declared]
