@@ -44,12 +44,13 @@ GRAMMAR = {
     "WIRE_INPUTS": (("(", "name", ("more", "name", 255), ")", ";"),),
     "SIZE": (("number",), ("name",), ("(", "E", ")")),
     "E": (
-        ("COMPARISON", ("many", "JOINED", 1048576), ("maybe", "CHOICE", 1)),
+        ("OR", ("maybe", "CHOICE", 1)),
         ("sum", "name", "<", "SIZE", ":", "E"),
         ("row", "name", "<", "SIZE", ":", "E"),
         ("sheet", "name", ",", "name", "<", "SIZE", ",", "SIZE", ":", "E"),
     ),
     "CHOICE": (("?", "E", ":", "E"),),
+    "OR": (("COMPARISON", ("many", "JOINED", 1048576)),),
     "JOINED": (("||", "COMPARISON"), ("&&", "COMPARISON")),
     "COMPARISON": (("FORMULA", ("maybe", "COMPARED", 1)),),
     "COMPARED": (

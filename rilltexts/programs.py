@@ -4,6 +4,7 @@ from rilltexts.reader import NOT_A_TOKEN
 from rilltexts.reader import read_program
 from rilltexts.scanner import NO_TOKEN
 from rilltexts.scanner import scan
+from rilltexts.writer import written_form
 
 LONGEST_TEXT = 1048576
 
@@ -15,7 +16,7 @@ def judge(t):
     found = scan(t)
     reading = read_program(found)
     if reading.fault == 0:
-        return [reading.declarations]
+        return [len(reading.program.inner)]
     if reading.at < len(found):
         return [-2, reading.fault, found[reading.at].first]
     return [-2, reading.fault, len(t)]
@@ -33,3 +34,26 @@ def tokens(t):
     for token in found:
         answer.extend([token.first, token.length, token.what, token.which])
     return answer
+
+
+def write(t):
+    """How many bytes, then the written form."""
+    if len(t) > LONGEST_TEXT:
+        return [-1]
+    form = written_form(t)
+    if form is None:
+        return [-2]
+    return [len(form)] + form
+
+
+def same(t, s):
+    """1 if both have the same tree, 0 if not: they have it just if they are written alike."""
+    if len(t) > LONGEST_TEXT or len(s) > LONGEST_TEXT:
+        return [-1]
+    form = written_form(t)
+    if form is None:
+        return [-2]
+    other = written_form(s)
+    if other is None:
+        return [-2]
+    return [1 if form == other else 0]

@@ -7,6 +7,8 @@ from rilltexts.scanner import KEPT
 from rilltexts.scanner import NAME
 from rilltexts.scanner import NUMBER
 from rilltexts.scanner import SIGN
+from rilltexts.tree import finished
+from rilltexts.tree import Node
 
 NOT_A_TOKEN = 1
 CANT_STAND = 2
@@ -16,6 +18,7 @@ TOO_MANY = 4
 MOST_DECLARATIONS = 4096
 DEEPEST = 128
 RULES_THAT_COUNT_AS_DEEP = ("E", "ONE", "ATOM", "SIZE")
+RULES_IN_THE_TREE = ("DECL", "SIZE", "E", "OR", "ONE", "ATOM", "BEHIND")
 
 
 class Frame:
@@ -30,14 +33,15 @@ class Frame:
 
 class Reading:
     """How far a text is read. What is still to come is a list of frames, the next one last, so that what is
-    nested in the text is not nested in calls."""
+    nested in the text is not nested in calls; and so are the nodes that have begun and not ended."""
 
     def __init__(self, symbols):
         self.symbols = symbols
         self.ways = ways_by_token()
         self.at = 0
         self.fault = 0
-        self.declarations = 0
+        self.program = Node("PROGRAM", 0)
+        self.begun = [self.program]
         self.frames = [Frame("once", "finish", 1, 0), Frame("many", "DECL", MOST_DECLARATIONS, 0)]
 
 
@@ -69,7 +73,22 @@ def fault_of(reading, frame, token):
     return 0
 
 
+def begin_node(reading, rule):
+    """Begins a node of the tree; the frame tells when it is to be ended."""
+    reading.begun.append(Node(rule, reading.at))
+    reading.frames.append(Frame("end", rule, 1, 0))
+
+
+def end_node(reading):
+    node = reading.begun.pop()
+    node.behind = reading.at
+    around = reading.begun[-1]
+    around.inner.append(finished(node, reading.symbols))
+
+
 def push_way(reading, frame, token):
+    if frame.symbol in RULES_IN_THE_TREE:
+        begin_node(reading, frame.symbol)
     depth = frame.depth
     if frame.symbol in RULES_THAT_COUNT_AS_DEEP:
         depth += 1
@@ -88,8 +107,6 @@ def read_once(reading, frame, token):
     reading.fault = fault_of(reading, frame, token)
     if reading.fault > 0:
         return
-    if frame.symbol == "DECL":
-        reading.declarations += 1
     if frame.symbol == token:
         reading.at += 1
     else:
@@ -99,7 +116,9 @@ def read_once(reading, frame, token):
 def step(reading):
     frame = reading.frames.pop()
     token = reading.symbols[reading.at]
-    if token == "nothing":
+    if frame.form == "end":
+        end_node(reading)
+    elif token == "nothing":
         reading.fault = NOT_A_TOKEN
     elif frame.form == "once":
         read_once(reading, frame, token)
@@ -115,8 +134,8 @@ def step(reading):
 
 
 def read_program(found):
-    """Reads tokens as a program; the reading tells how many declarations there are, or the fault and at which token
-    it is (behind the last one if the text ends too soon)."""
+    """Reads tokens as a program; the reading has its tree, or the fault and at which token it is (behind the last
+    one if the text ends too soon)."""
     symbols = [symbol_of(token) for token in found]
     symbols.append("finish")
     reading = Reading(symbols)

@@ -77,24 +77,40 @@ def digit_value(byte):
     return 16
 
 
+def value_of_digits(digits, base):
+    number = 0
+    for digit in digits:
+        number = number * base + digit_value(digit)
+    return number
+
+
 def are_digits(digits, base, most):
     """Whether a number may be written so: its length is asked first, as a run may be as long as its text."""
     if len(digits) == 0 or len(digits) > most:
         return False
     if digits[0] == ZERO and len(digits) > 1:
         return False
-    number = 0
     for digit in digits:
         if digit_value(digit) >= base:
             return False
-        number = number * base + digit_value(digit)
-    return number <= LARGEST_NUMBER
+    return value_of_digits(digits, base) <= LARGEST_NUMBER
+
+
+def is_hexadecimal(run):
+    return len(run) > 1 and run[0] == ZERO and run[1] == SMALL_X
 
 
 def is_number(run):
-    if len(run) > 1 and run[0] == ZERO and run[1] == SMALL_X:
+    if is_hexadecimal(run):
         return are_digits(run[2:], 16, MOST_HEX_DIGITS)
     return are_digits(run, 10, MOST_DIGITS)
+
+
+def number_value(run):
+    """What a right number counts."""
+    if is_hexadecimal(run):
+        return value_of_digits(run[2:], 16)
+    return value_of_digits(run, 10)
 
 
 def run_token(t, at):

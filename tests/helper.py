@@ -62,6 +62,26 @@ def spaced(words):
     return text(written), places + [len(written)]
 
 
+def words_of(written):
+    """The tokens of a right text without notes."""
+    return re.findall(r"\w+|->|<<|>>|[<>=!]=|&&|\|\||\S", written)
+
+
+def written(words):
+    """What `write` answers for a text whose written form has these words."""
+    return [len(words)] + text(words)
+
+
+def tight(words):
+    """The text of tokens with a blank just where it must stand."""
+    answer = ""
+    for word in words:
+        if re.search(r"\w\Z", answer) and re.match(r"\w", word):
+            answer += " "
+        answer += word
+    return answer
+
+
 # --- the grammar's words as trees: ("alt", ..), ("seq", ..), ("rep", x), ("opt", x), ("rule", n), ("token", s)
 
 def read_alternatives(pieces):
@@ -142,7 +162,7 @@ def grammars_word(word):
         return word
     if re.fullmatch(r"[A-Za-z_][A-Za-z0-9_]{0,31}", word):
         return "name"
-    return "number" if word.isdigit() else "no token"
+    return "number" if re.fullmatch(r"[0-9]+|0x[0-9A-F]+", word) else "no token"
 
 
 def go_on(coming, word):
@@ -170,3 +190,106 @@ def slow_judge_from(stacks, words, at):
         if isinstance(stacks, int):
             return [-2, stacks, places[place]]
     return [declared]
+
+
+# --- a slow reading of right texts to their trees: tuples in which parentheses and hexadecimal count for nothing
+
+ROWS = ("or", "and", "cmp", "bor", "bxor", "band", "shift", "add", "mul")
+
+
+def readings(node, words, at):
+    """Every way in which a part of the grammar's words takes tokens from here on: what it took, and where it ends."""
+    form = node[0]
+    if form == "token":
+        if at < len(words) and grammars_word(words[at]) == node[1]:
+            yield [words[at]], at + 1
+    elif form == "rule":
+        for took, end in readings(RULES[node[1]], words, at):
+            yield [(node[1], took)], end
+    elif form == "alt":
+        for way in node[1:]:
+            yield from readings(way, words, at)
+    elif form == "seq":
+        yield from readings_of_all(node[1:], words, at)
+    else:
+        again = (node[1],) if form == "opt" else (node[1], node)
+        yield from readings_of_all(again, words, at)
+        yield [], at
+
+
+def readings_of_all(nodes, words, at):
+    if not nodes:
+        yield [], at
+        return
+    for took, end in readings(nodes[0], words, at):
+        for more, last in readings_of_all(nodes[1:], words, end):
+            yield took + more, last
+
+
+def left_row(parts):
+    """a - b - c as (a - b) - c."""
+    tree = parts[0]
+    for place in range(1, len(parts), 2):
+        tree = (parts[place], tree, parts[place + 1])
+    return tree
+
+
+def left_post(parts):
+    """a[1]@2 as (a[1])@2."""
+    tree = parts.pop(0)
+    while parts:
+        size = 2 if parts[0] == "@" else parts.index("]") + 1
+        tree = ("post", tree) + tuple(parts[:size])
+        parts = parts[size:]
+    return tree
+
+
+def shaped(node):
+    if isinstance(node, str):
+        return int(node, 0) if node[0].isdigit() else node
+    rule = node[0]
+    parts = [shaped(part) for part in node[1]]
+    if rule in ROWS:
+        return left_row(parts)
+    if rule == "post":
+        return left_post(parts)
+    if rule in ("atom", "size") and parts[0] == "(":
+        return parts[1]
+    if rule in ("e", "one", "atom", "size") and len(parts) == 1:
+        return parts[0]
+    return (rule,) + tuple(parts)
+
+
+def slow_tree(words):
+    """The tree of a row of tokens; None if they are no program."""
+    if slow_judge(words)[0] < 0:
+        return None
+    for took, end in readings(("rule", "program"), words, 0):
+        if end == len(words):
+            return shaped(took[0])
+
+
+def pairs_of(words):
+    waiting = []
+    pairs = []
+    for place, word in enumerate(words):
+        if word == "(":
+            waiting.append(place)
+        elif word == ")":
+            pairs.append((waiting.pop(), place))
+    return pairs
+
+
+def without_needless(words):
+    """The tokens without each pair of parentheses that can go and leave the tree as it is."""
+    tree = slow_tree(words)
+    going = True
+    while going:
+        going = False
+        for first, last in pairs_of(words):
+            fewer = words[:first] + words[first + 1:last] + words[last + 1:]
+            if slow_tree(fewer) == tree:
+                words = fewer
+                going = True
+                break
+    return words

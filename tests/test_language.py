@@ -142,6 +142,8 @@ class Interface(unittest.TestCase):
     def test_names_and_arguments(self):
         self.assertEqual(str(inspect.signature(programs.judge)), "(t)")
         self.assertEqual(str(inspect.signature(programs.tokens)), "(t)")
+        self.assertEqual(str(inspect.signature(programs.write)), "(t)")
+        self.assertEqual(str(inspect.signature(programs.same)), "(t, s)")
 
 
 if __name__ == "__main__":

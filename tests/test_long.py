@@ -3,8 +3,13 @@
 import unittest
 
 from rilltexts.programs import judge
+from rilltexts.programs import same
 from rilltexts.programs import tokens
+from rilltexts.programs import write
 from tests.helper import text
+from tests.helper import tight
+from tests.helper import words_of
+from tests.helper import written
 
 LENGTH = 100000
 
@@ -23,11 +28,11 @@ class Long(unittest.TestCase):
         self.assertEqual(judge(t), [4000])
 
     def test_a_long_row_of_operators(self):
-        for sign in ("+", "-", "*", "/", "%", "&", "|", "^"):
+        for sign in ("-", "%", "|"):
             t = filled("const A=1" + (sign + "1") * 49995 + ";")
             self.assertEqual(judge(t), [1], sign)
             self.assertEqual(tokens(t)[0], 4 + 2 * 49995 + 1, sign)
-        for sign in ("<<", ">>", "&&", "||"):
+        for sign in (">>", "&&"):
             self.assertEqual(judge(filled("const A=1" + (sign + "a") * 33330 + ";")), [1], sign)
         self.assertEqual(judge(filled("const A=1" + "+1" * 49990 + "<1<1;")), [-2, 2, 9 + 2 * 49990 + 2])
 
@@ -67,6 +72,70 @@ class Long(unittest.TestCase):
         self.assertEqual(tokens(text(";" * LENGTH))[0], LENGTH)
         self.assertEqual(judge(text(";" * LENGTH)), [-2, 2, 0])
         self.assertEqual(tokens(text("a " * 50000))[0], 50000)
+
+
+class LongForms(unittest.TestCase):
+    def written_so(self, words, form):
+        t = filled(words)
+        self.assertEqual(len(t), LENGTH)
+        self.assertTrue(write(t) == written(form), words[:40])
+
+    def test_many_declarations(self):
+        self.written_so("const A=f(0xFF,(2),a[1]);" * 4000, "const A = f(255, 2, a[1]);\n" * 4000)
+
+    def test_long_rows_of_operators(self):
+        for sign in ("+", "*", "&", "||", "<<"):
+            many = (LENGTH - 10) // (len(sign) + 1)
+            self.written_so("const A=1" + (sign + "1") * many + ";", "const A = 1" + f" {sign} 1" * many + ";\n")
+
+    def test_long_rows_of_operators_of_many_strengths(self):
+        row = " || b && c < d | e ^ f & g << h + i * k"
+        self.written_so("const A=a" + row.replace(" ", "") * 4000 + ";", "const A = a" + row * 4000 + ";\n")
+        row = " * k + i << h & g ^ f | e < d && c || b"
+        self.written_so("const A=a" + row.replace(" ", "") * 4000 + ";", "const A = a" + row * 4000 + ";\n")
+
+    def test_long_rows_of_parentheses(self):
+        self.written_so("const A=0" + "+(1)" * 24990 + ";", "const A = 0" + " + 1" * 24990 + ";\n")
+        self.written_so("const A=0" + "+(1+a)" * 16660 + ";", "const A = 0" + " + (1 + a)" * 16660 + ";\n")
+        self.written_so("const A=0" + "-((((b))))" * 9990 + ";", "const A = 0" + " - b" * 9990 + ";\n")
+
+    def test_long_rows_behind_an_atom(self):
+        self.written_so("const A=a" + "@1" * 49995 + ";", "const A = a" + "@1" * 49995 + ";\n")
+        self.written_so("const A=(a+b)" + "[(1)]@(n)" * 11000 + ";", "const A = (a + b)" + "[1]@n" * 11000 + ";\n")
+
+    def test_long_tables_and_lists(self):
+        self.written_so("table T:u8=[1" + ",2" * 49990 + "];", "table T: u8 = [1" + ", 2" * 49990 + "];\n")
+        self.written_so("table T:u8=[1" + ",-(2)" * 19990 + "];", "table T: u8 = [1" + ", -2" * 19990 + "];\n")
+        call = "f(" + "a," * 255 + "a)"
+        form = "f(" + "a, " * 255 + "a)"
+        self.written_so("const A=1" + ("+" + call) * 190 + ";", "const A = 1" + (" + " + form) * 190 + ";\n")
+
+    def test_many_lines(self):
+        form = "node n(x: u8) -> (y: u8) {\n" + "  y = x;\n" * 256 + "}\n"
+        self.written_so(tight(words_of(form)) * 94, form * 94)
+
+    def test_deep_declarations(self):
+        self.written_so(("const A=" + "(" * 42 + "1" + ")" * 42 + ";") * 1050, "const A = 1;\n" * 1050)
+        self.written_so(("const A=" + "-" * 126 + "1;") * 730, ("const A = " + "-" * 126 + "1;\n") * 730)
+        self.written_so(("const A=" + "a?b:" * 126 + "1;") * 190, ("const A = " + "a ? b : " * 126 + "1;\n") * 190)
+
+    def test_long_notes(self):
+        self.written_so("const//" + "x" * 99000 + "\nA=1;//", "const A = 1;\n")
+        self.written_so("//\n" * 33000 + "const A=1;", "const A = 1;\n")
+        self.assertEqual(write(text("//" + "x" * (LENGTH - 2))), [0])
+
+    def test_wrong_at_the_end(self):
+        self.assertEqual(write(filled("const A=1" + "+1" * 49990 + "<1<1;")), [-2])
+        self.assertEqual(write(text("const A=1;" + " " * 99989 + "$")), [-2])
+
+    def test_same(self):
+        t = filled("const A=0" + "+(1)" * 24990 + ";")
+        self.assertEqual(same(t, text("const A=0" + "+1" * 24990 + ";")), [1])
+        self.assertEqual(same(t, filled("const A=0" + "+1" * 24989 + "+2;")), [0])
+        self.assertEqual(same(t, filled("const A=0" + "+1" * 24989 + ";")), [0])
+        t = filled("const A=a" + "@1" * 49995 + ";")
+        self.assertEqual(same(t, filled("const A=a" + "@1" * 49994 + "@2;")), [0])
+        self.assertEqual(same(t, t), [1])
 
 
 if __name__ == "__main__":
