@@ -1,24 +1,26 @@
 """The calls: each takes texts as lists of bytes and gives back one list of whole numbers."""
 
+from rilltexts.places import declaration_named
+from rilltexts.places import declaration_told
 from rilltexts.reader import NOT_A_TOKEN
-from rilltexts.reader import read_program
+from rilltexts.reader import read_text
 from rilltexts.scanner import NO_TOKEN
 from rilltexts.scanner import scan
 from rilltexts.writer import written_form
 
 LONGEST_TEXT = 1048576
+LONGEST_SOUGHT_NAME = 32
 
 
 def judge(t):
     """How many declarations; or -2, the fault's kind and its place."""
     if len(t) > LONGEST_TEXT:
         return [-1]
-    found = scan(t)
-    reading = read_program(found)
+    reading = read_text(t)
     if reading.fault == 0:
         return [len(reading.program.inner)]
-    if reading.at < len(found):
-        return [-2, reading.fault, found[reading.at].first]
+    if reading.at < len(reading.found):
+        return [-2, reading.fault, reading.found[reading.at].first]
     return [-2, reading.fault, len(t)]
 
 
@@ -57,3 +59,27 @@ def same(t, s):
     if other is None:
         return [-2]
     return [1 if form == other else 0]
+
+
+def decl(i, t):
+    """0, then of declaration i what it is, its first byte, how many bytes, where its name begins and how many bytes
+    that has; -4 if there is none."""
+    if len(t) > LONGEST_TEXT:
+        return [-1]
+    reading = read_text(t)
+    if reading.fault > 0:
+        return [-2]
+    if i >= len(reading.program.inner):
+        return [-4]
+    return [0] + declaration_told(reading, reading.program.inner[i])
+
+
+def find(t, s):
+    """Which declaration is the first with the name s; -5 if there is none."""
+    if len(t) > LONGEST_TEXT or len(s) > LONGEST_SOUGHT_NAME:
+        return [-1]
+    reading = read_text(t)
+    if reading.fault > 0:
+        return [-2]
+    i = declaration_named(t, reading, s)
+    return [-5] if i is None else [i]

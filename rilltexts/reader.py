@@ -7,6 +7,7 @@ from rilltexts.scanner import KEPT
 from rilltexts.scanner import NAME
 from rilltexts.scanner import NUMBER
 from rilltexts.scanner import SIGN
+from rilltexts.scanner import scan
 from rilltexts.tree import finished
 from rilltexts.tree import Node
 
@@ -31,20 +32,6 @@ class Frame:
         self.depth = depth
 
 
-class Reading:
-    """How far a text is read. What is still to come is a list of frames, the next one last, so that what is
-    nested in the text is not nested in calls; and so are the nodes that have begun and not ended."""
-
-    def __init__(self, symbols):
-        self.symbols = symbols
-        self.ways = ways_by_token()
-        self.at = 0
-        self.fault = 0
-        self.program = Node("PROGRAM", 0)
-        self.begun = [self.program]
-        self.frames = [Frame("once", "finish", 1, 0), Frame("many", "DECL", MOST_DECLARATIONS, 0)]
-
-
 def symbol_of(token):
     """What the grammar calls a token; "nothing" is in no rule."""
     if token.what == NAME:
@@ -56,6 +43,22 @@ def symbol_of(token):
     if token.what == SIGN:
         return SIGNS[token.which]
     return "nothing"
+
+
+class Reading:
+    """How far a text is read: its tokens as they were found and as the grammar calls them, at which of them it is,
+    and the tree up to there. What is still to come is a list of frames, the next one last, so that what is nested
+    in the text is not nested in calls; and so are the nodes that have begun and not ended."""
+
+    def __init__(self, found):
+        self.found = found
+        self.symbols = [symbol_of(token) for token in found] + ["finish"]
+        self.ways = ways_by_token()
+        self.at = 0
+        self.fault = 0
+        self.program = Node("PROGRAM", 0)
+        self.begun = [self.program]
+        self.frames = [Frame("once", "finish", 1, 0), Frame("many", "DECL", MOST_DECLARATIONS, 0)]
 
 
 def can_begin(reading, symbol, token):
@@ -133,12 +136,10 @@ def step(reading):
             reading.frames.append(Frame("once", frame.symbol, frame.room, frame.depth))
 
 
-def read_program(found):
-    """Reads tokens as a program; the reading has its tree, or the fault and at which token it is (behind the last
+def read_text(t):
+    """Reads a text as a program; the reading has its tree, or the fault and at which token it is (behind the last
     one if the text ends too soon)."""
-    symbols = [symbol_of(token) for token in found]
-    symbols.append("finish")
-    reading = Reading(symbols)
+    reading = Reading(scan(t))
     while reading.fault == 0 and reading.frames:
         step(reading)
     return reading

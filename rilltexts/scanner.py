@@ -126,6 +126,11 @@ def run_token(t, at):
     return Token(at, len(run), NAME, 0)
 
 
+def own_bytes(t, token):
+    """A token's own bytes."""
+    return t[token.first:token.first + token.length]
+
+
 def sign_token(t, at):
     if at + 1 < len(t) and (t[at], t[at + 1]) in SIGNS_OF_TWO:
         return Token(at, 2, SIGN, SIGNS_OF_TWO[(t[at], t[at + 1])])

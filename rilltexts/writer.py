@@ -1,11 +1,11 @@
 """The one way of writing a program: which of its tokens are written, and what stands between them."""
 
-from rilltexts.reader import read_program
+from rilltexts.reader import read_text
 from rilltexts.scanner import BLANK
 from rilltexts.scanner import LINE_END
 from rilltexts.scanner import NUMBER
 from rilltexts.scanner import number_value
-from rilltexts.scanner import scan
+from rilltexts.scanner import own_bytes
 from rilltexts.tree import all_nodes
 from rilltexts.tree import are_needless
 
@@ -51,21 +51,21 @@ def blanks_ahead(before, look, in_braces):
     return 1 if stand_apart(before, look) else 0
 
 
-def token_bytes(t, token):
-    run = t[token.first:token.first + token.length]
+def written_bytes(t, token):
+    run = own_bytes(t, token)
     if token.what == NUMBER:
         return [ord(digit) for digit in str(number_value(run))]
     return run
 
 
-def written_tokens(t, found, looks):
+def written_tokens(t, reading):
     answer = []
     before = ";"
     in_braces = False
-    for token, look in zip(found, looks):
+    for token, look in zip(reading.found, looks_of(reading)):
         if look != "needless":
             answer.extend([BLANK] * blanks_ahead(before, look, in_braces))
-            answer.extend(token_bytes(t, token))
+            answer.extend(written_bytes(t, token))
             if look in LINE_ENDS:
                 answer.append(LINE_END)
             in_braces = look == "{" or (in_braces and look != "}")
@@ -75,8 +75,7 @@ def written_tokens(t, found, looks):
 
 def written_form(t):
     """A text's written form; None if it is no program's text."""
-    found = scan(t)
-    reading = read_program(found)
+    reading = read_text(t)
     if reading.fault > 0:
         return None
-    return written_tokens(t, found, looks_of(reading))
+    return written_tokens(t, reading)

@@ -8,7 +8,11 @@ import re
 
 KEPT_WORDS = ("abs at const delay fn graph held let max min node round row sheet state sum table wrapped"
               " u8 s8 u16 s16 u32 s32 u64 s64").split()
+DECLARATION_WORDS = ("const", "table", "fn", "node", "graph")
 SIGNS = "-> << >> <= >= == != && || + - * / % & | ^ ~ ! < > = ? : ; , @ ( ) [ ] { }".split()
+
+# What may stand between two tokens.
+FILLERS = (" ", "\n", "  \n \n\n", "//\n", " // a note: const ( [ { $ \x00 \xff \" ; // \n", "\n////\n // \n ")
 
 GRAMMAR = r'''
 program = { decl }
@@ -80,6 +84,12 @@ def tight(words):
             answer += " "
         answer += word
     return answer
+
+
+def filled_with(filler, words):
+    """The text of tokens with a filler between each two."""
+    # Right behind a / a note would begin with that.
+    return filler.join([word + " " if word == "/" else word for word in words])
 
 
 # --- the grammar's words as trees: ("alt", ..), ("seq", ..), ("rep", x), ("opt", x), ("rule", n), ("token", s)
@@ -184,7 +194,7 @@ def slow_judge(words):
 
 def slow_judge_from(stacks, words, at):
     places = spaced(words)[1]
-    declared = sum(word in ("const", "table", "fn", "node", "graph") for word in words)
+    declared = sum(word in DECLARATION_WORDS for word in words)
     for place in range(at, len(words) + 1):
         stacks = go_on(can_come(stacks), words[place] if place < len(words) else "finish")
         if isinstance(stacks, int):

@@ -144,6 +144,8 @@ class Interface(unittest.TestCase):
         self.assertEqual(str(inspect.signature(programs.tokens)), "(t)")
         self.assertEqual(str(inspect.signature(programs.write)), "(t)")
         self.assertEqual(str(inspect.signature(programs.same)), "(t, s)")
+        self.assertEqual(str(inspect.signature(programs.decl)), "(i, t)")
+        self.assertEqual(str(inspect.signature(programs.find)), "(t, s)")
 
 
 if __name__ == "__main__":

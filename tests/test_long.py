@@ -2,6 +2,8 @@
 
 import unittest
 
+from rilltexts.programs import decl
+from rilltexts.programs import find
 from rilltexts.programs import judge
 from rilltexts.programs import same
 from rilltexts.programs import tokens
@@ -136,6 +138,61 @@ class LongForms(unittest.TestCase):
         t = filled("const A=a" + "@1" * 49995 + ";")
         self.assertEqual(same(t, filled("const A=a" + "@1" * 49994 + "@2;")), [0])
         self.assertEqual(same(t, t), [1])
+
+
+class LongDeclarations(unittest.TestCase):
+    def test_4096_declarations(self):
+        names = [f"name_{i}" for i in range(4096)]
+        words = "".join(f"const {name}=1;\n" for name in names)
+        t = filled(words)
+        self.assertEqual(judge(t), [4096])
+        places = [0]
+        for name in names:
+            places.append(places[-1] + len(f"const {name}=1;\n"))
+        for i in (0, 1, 9, 10, 2047, 4094, 4095):
+            length = len(names[i])
+            self.assertEqual(decl(i, t), [0, 0, places[i], 9 + length, places[i] + 6, length])
+            self.assertEqual(find(t, text(names[i])), [i])
+        self.assertEqual(decl(4096, t), [-4])
+        self.assertEqual(decl(4294967295, t), [-4])
+        self.assertEqual(find(t, text("name_4096")), [-5])
+        self.assertEqual(find(t, text("name_")), [-5])
+
+    def test_a_4097th(self):
+        t = filled("const A=1;" * 4096 + "const B=1;")
+        self.assertEqual((decl(0, t), decl(4096, t), find(t, text("A")), find(t, text("B"))), ([-2], [-2], [-2], [-2]))
+
+    def test_many_of_each_form(self):
+        forms = ("const A=1+2;", "table B:u8=[1,2,3];", "fn C(a,b,c)=a+b+c;", "node D(x:u8)->(y:u8){let a=x[0];y=a;}",
+                 "graph E(x:u8 at 1)->(y:u8 at 1){y=delay 1(0)(x);}")
+        whole = "".join(forms)
+        t = text(whole * (LENGTH // len(whole)) + " " * (LENGTH % len(whole)))
+        many = 5 * (LENGTH // len(whole))
+        self.assertEqual((len(t), judge(t)), (LENGTH, [many]))
+        for i in (0, 1, 2, 3, 4, many - 5, many - 4, many - 3, many - 2, many - 1):
+            first = i // 5 * len(whole) + len("".join(forms[:i % 5]))
+            form = forms[i % 5]
+            self.assertEqual(decl(i, t), [0, i % 5, first, len(form), first + form.index(" ") + 1, 1])
+        self.assertEqual(decl(many, t), [-4])
+        self.assertEqual([find(t, text(name)) for name in "ABCDEF"], [[0], [1], [2], [3], [4], [-5]])
+
+    def test_one_that_is_as_long_as_the_text(self):
+        for what, words in ((0, "const A=1" + "+1" * 49990 + ";"), (1, "table A:u8=[1" + ",2" * 49990 + "];"),
+                            (0, "const A=a" + "@1" * 49990 + ";"), (0, "const A=1;")):
+            # The blanks stand within it, ahead of its last token.
+            t = text(words[:-1] + " " * (LENGTH - len(words)) + ";")
+            self.assertEqual(decl(0, t), [0, what, 0, LENGTH, 6, 1])
+            self.assertEqual((decl(1, t), find(t, text("A")), find(t, text("a"))), ([-4], [0], [-5]))
+
+    def test_a_long_note_ahead_of_a_name(self):
+        t = text("const//" + "x" * (LENGTH - 12) + "\nA=1;")
+        self.assertEqual(len(t), LENGTH)
+        self.assertEqual(decl(0, t), [0, 0, 0, LENGTH, LENGTH - 4, 1])
+        self.assertEqual((find(t, text("A")), find(t, text("x" * 32))), ([0], [-5]))
+
+    def test_wrong_at_the_end(self):
+        t = text("const A=1;" + " " * 99989 + "$")
+        self.assertEqual((decl(0, t), decl(1, t), find(t, text("A")), find(t, text("B"))), ([-2], [-2], [-2], [-2]))
 
 
 if __name__ == "__main__":

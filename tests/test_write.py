@@ -6,6 +6,8 @@ from rilltexts.programs import judge
 from rilltexts.programs import same
 from rilltexts.programs import tokens
 from rilltexts.programs import write
+from tests.helper import FILLERS
+from tests.helper import filled_with
 from tests.helper import text
 from tests.helper import tight
 from tests.helper import words_of
@@ -13,9 +15,6 @@ from tests.helper import written
 
 CODES = ("u8", "s8", "u16", "s16", "u32", "s32", "u64", "s64")
 OPERATORS = "|| && < <= == != > >= | ^ & << >> + - * / %".split()
-
-# What may stand between two tokens.
-FILLERS = (" ", "\n", "  \n \n\n", "//\n", " // a note: const ( [ { $ \x00 \xff \" ; // \n", "\n////\n // \n ")
 
 DECLARATIONS = (
     "const A = 1;\n",
@@ -93,10 +92,10 @@ class Written(unittest.TestCase):
         words = words_of(form)
         answer = written(form)
         texts = [form, tight(words), " ".join(words)]
+        for filler in FILLERS:
+            texts.append(filler + filled_with(filler, words) + filler)
         # Right behind a / a note would begin with that.
         words = [word + " " if word == "/" else word for word in words]
-        for filler in FILLERS:
-            texts.append(filler + filler.join(words) + filler)
         mixed = ""
         for place, word in enumerate(words):
             mixed += FILLERS[place % len(FILLERS)] + word
