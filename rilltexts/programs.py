@@ -2,9 +2,11 @@
 
 from rilltexts.places import declaration_named
 from rilltexts.places import declaration_told
+from rilltexts.places import smallest_part_told
 from rilltexts.reader import NOT_A_TOKEN
 from rilltexts.reader import read_text
 from rilltexts.scanner import NO_TOKEN
+from rilltexts.scanner import byte_class
 from rilltexts.scanner import scan
 from rilltexts.writer import written_form
 
@@ -83,3 +85,22 @@ def find(t, s):
         return [-2]
     i = declaration_named(t, reading, s)
     return [-5] if i is None else [i]
+
+
+def part(at, t):
+    """0, then of the smallest part in which byte at lies what it is, its first byte, how many bytes and how deep it
+    stands; -5 if the byte lies in none."""
+    if len(t) > LONGEST_TEXT:
+        return [-1]
+    reading = read_text(t)
+    if reading.fault > 0:
+        return [-2]
+    told = smallest_part_told(reading, at)
+    return [-5] if told is None else [0] + told
+
+
+def classes(t):
+    """0, then of each byte its class, whether the text is a program's or not."""
+    if len(t) > LONGEST_TEXT:
+        return [-1]
+    return [0] + [byte_class(byte) for byte in t]

@@ -16,6 +16,12 @@ LARGEST_NUMBER = 9223372036854775807
 MOST_DIGITS = 19
 MOST_HEX_DIGITS = 16
 
+OTHER_CLASS = 0
+BLANK_CLASS = 1
+LETTER_CLASS = 2
+DIGIT_CLASS = 3
+SIGN_CLASS = 4
+
 BLANK = 32
 LINE_END = 10
 SLASH = 47
@@ -37,8 +43,29 @@ def is_digit(byte):
     return 48 <= byte <= 57
 
 
+def is_letter(byte):
+    return 97 <= byte <= 122 or 65 <= byte <= 90 or byte == 95
+
+
+def is_blank(byte):
+    return byte == BLANK or byte == LINE_END
+
+
 def is_word_byte(byte):
-    return 97 <= byte <= 122 or 65 <= byte <= 90 or is_digit(byte) or byte == 95
+    return is_letter(byte) or is_digit(byte)
+
+
+def byte_class(byte):
+    if is_blank(byte):
+        return BLANK_CLASS
+    if is_letter(byte):
+        return LETTER_CLASS
+    if is_digit(byte):
+        return DIGIT_CLASS
+    # The bytes of longer signs are signs by themselves too.
+    if byte in SIGNS_OF_ONE:
+        return SIGN_CLASS
+    return OTHER_CLASS
 
 
 def begins_note(t, at):
@@ -53,7 +80,7 @@ def note_end(t, at):
 
 def behind_blanks(t, at):
     while at < len(t):
-        if t[at] == BLANK or t[at] == LINE_END:
+        if is_blank(t[at]):
             at += 1
         elif begins_note(t, at):
             at = note_end(t, at)

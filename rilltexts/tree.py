@@ -22,14 +22,16 @@ BEGINNINGS_OF_A_SUM = ("sum", "row", "sheet")
 
 
 class Node:
-    """What it is, its tokens from the first up to, but not, the one behind it, the nodes in it, how strong it binds,
-    and the least strength that may stand in its place without parentheses."""
+    """What it is, its tokens from the first up to, but not, the one behind it, the nodes in it, whether it is but
+    parentheses around the one in it, how strong it binds, and the least strength that may stand in its place without
+    parentheses."""
 
     def __init__(self, kind, first):
         self.kind = kind
         self.first = first
         self.behind = first
         self.inner = []
+        self.is_pair = False
         self.strength = WORD_STRENGTH
         self.least = SUM_STRENGTH
 
@@ -104,7 +106,7 @@ def finished_one(node, symbols):
 def finished_atom_or_size(node, symbols):
     if symbols[node.first] == "(":
         node.least = WORD_STRENGTH if node.kind == "SIZE" else SUM_STRENGTH
-        node.kind = "PARENTHESES"
+        node.is_pair = True
         # They bind as what is in them, as that is what would stand in their place.
         node.strength = node.inner[0].strength
     elif node.behind - node.first > 1:
@@ -127,7 +129,7 @@ def finished(node, symbols):
 
 def are_needless(node):
     """Whether a node is parentheses around what could stand there without them."""
-    return node.kind == "PARENTHESES" and node.strength >= node.least
+    return node.is_pair and node.strength >= node.least
 
 
 def all_nodes(node):

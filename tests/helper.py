@@ -66,9 +66,12 @@ def spaced(words):
     return text(written), places + [len(written)]
 
 
+TOKEN = r"\w+|->|<<|>>|[<>=!]=|&&|\|\||\S"
+
+
 def words_of(written):
     """The tokens of a right text without notes."""
-    return re.findall(r"\w+|->|<<|>>|[<>=!]=|&&|\|\||\S", written)
+    return re.findall(TOKEN, written)
 
 
 def written(words):
@@ -76,20 +79,62 @@ def written(words):
     return [len(words)] + text(words)
 
 
-def tight(words):
-    """The text of tokens with a blank just where it must stand."""
-    answer = ""
-    for word in words:
-        if re.search(r"\w\Z", answer) and re.match(r"\w", word):
-            answer += " "
-        answer += word
-    return answer
-
-
 def filled_with(filler, words):
     """The text of tokens with a filler between each two."""
     # Right behind a / a note would begin with that.
     return filler.join([word + " " if word == "/" else word for word in words])
+
+
+def laid_out(words, fillers):
+    """The text of tokens with fillers ahead of, between and behind them (one for all, or one for each place), and where
+    each token begins and ends. A blank is there where it must stand."""
+    if isinstance(fillers, str):
+        fillers = [fillers] * (len(words) + 1)
+    answer = fillers[0]
+    places = []
+    for word, filler in zip(words, fillers[1:]):
+        if re.search(r"\w\Z", answer) and re.match(r"\w", word):
+            answer += " "
+        places.append((len(answer), len(answer) + len(word)))
+        # Right behind a / a note would begin with that.
+        answer += word + (" " if word == "/" and filler else "") + filler
+    return answer, places
+
+
+def tight(words):
+    """The text of tokens with a blank just where it must stand."""
+    return laid_out(words, "")[0]
+
+
+def in_hexadecimal(words):
+    return [f"0x{int(word):X}" if word.isdigit() else word for word in words]
+
+
+def marked(words):
+    """A text in which the parts are marked («5 begins one that's a 5, » ends it): its tokens, and of each part what it
+    is, its first token and the one behind it."""
+    found = []
+    parts = []
+    begun = []
+    for piece in re.findall(r"«\d|»|" + TOKEN, words):
+        if piece[0] == "«":
+            begun.append((int(piece[1]), len(found)))
+        elif piece == "»":
+            parts.append(begun.pop() + (len(found),))
+        else:
+            found.append(piece)
+    return found, parts
+
+
+def part_answers(length, places, parts):
+    """What `part` answers at each byte of a text of that length, if its tokens have these places and it these parts."""
+    answers = [[-5]] * length
+    for what, first, behind in sorted(parts, key=lambda part: part[1] - part[2]):
+        depth = sum(one[1] <= first and behind <= one[2] for one in parts) - 1
+        begin = places[first][0]
+        end = places[behind - 1][1]
+        answers[begin:end] = [[0, what, begin, end - begin, depth]] * (end - begin)
+    return answers
 
 
 # --- the grammar's words as trees: ("alt", ..), ("seq", ..), ("rep", x), ("opt", x), ("rule", n), ("token", s)
@@ -270,13 +315,57 @@ def shaped(node):
     return (rule,) + tuple(parts)
 
 
+def slow_reading(words):
+    for took, end in readings(("rule", "program"), words, 0):
+        if end == len(words):
+            return took[0]
+
+
 def slow_tree(words):
     """The tree of a row of tokens; None if they are no program."""
     if slow_judge(words)[0] < 0:
         return None
-    for took, end in readings(("rule", "program"), words, 0):
-        if end == len(words):
-            return shaped(took[0])
+    return shaped(slow_reading(words))
+
+
+# --- the parts, told from the slow reading
+
+PARTS_OF_RULES = {"decl": 0, "port": 1, "end": 1, "state": 2, "do": 3, "wire": 4}
+
+
+def parts_of_rule(rule, took, first, ends):
+    """The parts that one rule makes, of what it took and where each piece of that ends."""
+    last = ends[-1] if ends else first
+    if rule in PARTS_OF_RULES:
+        return [(PARTS_OF_RULES[rule], first, last)]
+    if rule in ROWS:
+        return [(5, first, end) for end in ends[2::2]]
+    if rule == "post":
+        return [(7, first, end) for place, end in enumerate(ends) if "]" == took[place] or "@" in took[:place][-1:]]
+    if rule == "atom":
+        return [(8 if last - first == 1 else 7, first, last)]
+    if rule in ("e", "one") and len(took) > 1:
+        return [(5 if rule == "e" else 6, first, last)]
+    return []
+
+
+def put_parts(node, first, parts):
+    """Puts a reading's parts behind the others, and gives back where it ends."""
+    if isinstance(node, str):
+        return first + 1
+    rule, took = node
+    ends = []
+    for piece in took:
+        ends.append(put_parts(piece, ends[-1] if ends else first, parts))
+    parts.extend(parts_of_rule(rule, took, first, ends))
+    return ends[-1] if ends else first
+
+
+def slow_parts(words):
+    """The parts of a program's tokens: of each what it is, its first token and the one behind it."""
+    parts = []
+    put_parts(slow_reading(words), 0, parts)
+    return parts
 
 
 def pairs_of(words):

@@ -9,6 +9,7 @@ from rilltexts.programs import write
 from tests.helper import DECLARATION_WORDS
 from tests.helper import FILLERS
 from tests.helper import filled_with
+from tests.helper import in_hexadecimal
 from tests.helper import text
 from tests.helper import tight
 from tests.helper import words_of
@@ -188,7 +189,7 @@ class Promises(unittest.TestCase):
 
     def test_e4_notes_blanks_and_hexadecimal_count_for_nothing(self):
         words = words_of(self.PROGRAM)
-        hexadecimal = [f"0x{int(word):X}" if word.isdigit() else word for word in words]
+        hexadecimal = in_hexadecimal(words)
         for one in [tight(words), tight(hexadecimal)] + [filled_with(filler, words) for filler in FILLERS]:
             t = text(one)
             form = write(t)[1:]

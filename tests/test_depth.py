@@ -2,8 +2,17 @@
 
 import unittest
 
+from rilltexts.programs import classes
+from rilltexts.programs import decl
+from rilltexts.programs import find
 from rilltexts.programs import judge
+from rilltexts.programs import part
+from rilltexts.programs import same
+from rilltexts.programs import tokens
+from rilltexts.programs import write
+from tests.helper import slow_parts
 from tests.helper import text
+from tests.helper import words_of
 
 HEAD = "const A="
 NODE = "node n(x:u8)->(y:u8){"
@@ -110,6 +119,52 @@ class Depth(unittest.TestCase):
         for words, place in (("-" * 127 + ";", 127), ("-" * 128 + ")", 128), ("-" * 128 + "sum i<1:1;", 128),
                              ("sum i<1:" * 128 + "sum i<-", 8 * 128 + 6), ("sum i<1:" * 128 + "sum 1", 8 * 128 + 4)):
             self.assertEqual(judge(text(HEAD + words)), [-2, 2, 8 + place], words)
+
+
+def parts_around(ahead, behind):
+    """In how many parts an e stands that stands in another in that way; read from a text that isn't deep."""
+    front = words_of(HEAD + ahead)
+    parts = slow_parts(front + ["7"] + words_of(behind + ";"))
+    return sum(first <= len(front) < end for what, first, end in parts) - 2
+
+
+class AllCalls(unittest.TestCase):
+    """Each way of standing in one another, as deep as it may be, and one deeper."""
+
+    def test_as_deep_as_may_be(self):
+        for ahead, behind, steps, first in WAYS:
+            front = HEAD + "sum i<1:" * (126 % steps) + ahead * (126 // steps)
+            words = front + "7" + behind * (126 // steps) + ";"
+            t = text(words)
+            form = write(t)[1:]
+            self.assertEqual((judge(t), judge(form)), ([1], [1]), ahead)
+            self.assertEqual((write(form)[1:], same(t, form), same(form, t)), (form, [1], [1]), ahead)
+            self.assertEqual(tokens(t)[0], len(words_of(words)), ahead)
+            self.assertEqual((decl(0, t), decl(1, t)), ([0, 0, 0, len(t), 6, 1], [-4]), ahead)
+            self.assertEqual((find(t, text("A")), find(t, text("a"))), ([0], [-5]), ahead)
+            deep = 1 + 126 % steps + parts_around(ahead, behind) * (126 // steps)
+            self.assertEqual(part(len(front), t), [0, 8, len(front), 1, deep], ahead)
+            self.assertEqual((part(0, t), part(len(t) - 1, t)), ([0, 0, 0, len(t), 0],) * 2, ahead)
+            self.assertEqual(len(classes(t)), 1 + len(t), ahead)
+
+    def test_one_deeper(self):
+        for ahead, behind, steps, first in WAYS:
+            words = HEAD + "sum i<1:" * (126 % steps + 1) + ahead * (126 // steps) + "7" + behind * (126 // steps) + ";"
+            t = text(words)
+            self.assertEqual([write(t), same(t, t), decl(0, t), find(t, text("A")), part(8, t)], [[-2]] * 5, ahead)
+            self.assertEqual(judge(t)[:2], [-2, 3], ahead)
+            self.assertEqual((tokens(t)[0], len(classes(t))), (len(words_of(words)), 1 + len(t)), ahead)
+
+    def test_parentheses_and_signs(self):
+        t = text(HEAD + "(" * 42 + "1" + ")" * 42 + ";")
+        for k in range(42):
+            self.assertEqual(part(8 + k, t), [0, 7, 8 + k, 85 - 2 * k, 1 + k])
+            self.assertEqual(part(8 + 84 - k, t), [0, 7, 8 + k, 85 - 2 * k, 1 + k])
+        self.assertEqual(part(50, t), [0, 8, 50, 1, 43])
+        t = text(HEAD + "-" * 126 + "1;")
+        for k in range(126):
+            self.assertEqual(part(8 + k, t), [0, 6, 8 + k, 127 - k, 1 + k])
+        self.assertEqual(part(134, t), [0, 8, 134, 1, 127])
 
 
 if __name__ == "__main__":

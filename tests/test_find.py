@@ -9,6 +9,7 @@ from tests.helper import FILLERS
 from tests.helper import KEPT_WORDS
 from tests.helper import SIGNS
 from tests.helper import filled_with
+from tests.helper import in_hexadecimal
 from tests.helper import text
 from tests.helper import tight
 from tests.helper import words_of
@@ -158,7 +159,7 @@ class Promises(Find):
             self.assertEqual(find(t, name), [i % len(NAMES)])
 
     def test_e4_hexadecimal_counts_for_nothing(self):
-        words = [f"0x{int(word):X}" if word.isdigit() else word for word in words_of(PROGRAM)]
+        words = in_hexadecimal(words_of(PROGRAM))
         for i, name in enumerate(NAMES):
             self.found(tight(words), name, i)
 

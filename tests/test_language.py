@@ -146,6 +146,8 @@ class Interface(unittest.TestCase):
         self.assertEqual(str(inspect.signature(programs.same)), "(t, s)")
         self.assertEqual(str(inspect.signature(programs.decl)), "(i, t)")
         self.assertEqual(str(inspect.signature(programs.find)), "(t, s)")
+        self.assertEqual(str(inspect.signature(programs.part)), "(at, t)")
+        self.assertEqual(str(inspect.signature(programs.classes)), "(t)")
 
 
 if __name__ == "__main__":

@@ -2,9 +2,11 @@
 
 import unittest
 
+from rilltexts.programs import classes
 from rilltexts.programs import decl
 from rilltexts.programs import find
 from rilltexts.programs import judge
+from rilltexts.programs import part
 from rilltexts.programs import same
 from rilltexts.programs import tokens
 from rilltexts.programs import write
@@ -193,6 +195,105 @@ class LongDeclarations(unittest.TestCase):
     def test_wrong_at_the_end(self):
         t = text("const A=1;" + " " * 99989 + "$")
         self.assertEqual((decl(0, t), decl(1, t), find(t, text("A")), find(t, text("B"))), ([-2], [-2], [-2], [-2]))
+
+
+class LongParts(unittest.TestCase):
+    def right_at(self, t, rows):
+        self.assertEqual(len(t), LENGTH)
+        for at, answer in rows:
+            self.assertEqual(part(at, t), answer, at)
+
+    def test_a_long_row_of_operators(self):
+        many = 49995
+        t = filled("const A=1" + "+1" * many + ";")
+        rows = [(0, [0, 0, 0, 10 + 2 * many, 0]), (8, [0, 8, 8, 1, 1 + many]), (LENGTH - 1, [0, 0, 0, LENGTH, 0])]
+        for k in (0, 30000, many - 1):
+            rows.append((9 + 2 * k, [0, 5, 8, 3 + 2 * k, many - k]))
+            rows.append((10 + 2 * k, [0, 8, 10 + 2 * k, 1, 1 + many - k]))
+        self.right_at(t, rows)
+
+    def test_a_long_row_of_operators_of_many_strengths(self):
+        # Each b, c, d, e stands in the row of ||, then in its own ones of &&, <, +.
+        many = 9090
+        t = filled("const A=a" + "||b&&c<d+e" * many + ";")
+        for k in (0, many - 1):
+            first = 11 + 10 * k
+            deep = 1 + many - k
+            self.right_at(t, (
+                (first - 1, [0, 5, 8, 11 + 10 * k, deep - 1]), (first, [0, 8, first, 1, deep + 1]), (first + 1, [0, 5, first, 8, deep]),
+                (first + 3, [0, 8, first + 3, 1, deep + 2]), (first + 4, [0, 5, first + 3, 5, deep + 1]),
+                (first + 5, [0, 8, first + 5, 1, deep + 3]), (first + 6, [0, 5, first + 5, 3, deep + 2])))
+
+    def test_a_long_row_behind_an_atom(self):
+        many = 49995
+        t = filled("const A=a" + "@1" * many + ";")
+        self.right_at(t, ((8, [0, 8, 8, 1, 1 + many]), (9, [0, 7, 8, 3, many]), (10, [0, 7, 8, 3, many]),
+                          (9 + 2 * many - 1, [0, 7, 8, 1 + 2 * many, 1])))
+        many = 33330
+        t = filled("const A=a" + "[1]" * many + ";")
+        self.right_at(t, ((8, [0, 8, 8, 1, 1 + many]), (9, [0, 7, 8, 4, many]), (10, [0, 8, 10, 1, 1 + many]),
+                          (9 + 3 * many - 2, [0, 8, 9 + 3 * many - 2, 1, 2]), (9 + 3 * many - 1, [0, 7, 8, 1 + 3 * many, 1])))
+
+    def test_a_long_table(self):
+        t = filled("table T:u8=[1" + ",2" * 49990 + "];")
+        whole = [0, 0, 0, 13 + 2 * 49990 + 2, 0]
+        self.right_at(t, ((0, whole), (12, [0, 8, 12, 1, 1]), (13, whole), (14, [0, 8, 14, 1, 1]),
+                          (99992, [0, 8, 99992, 1, 1]), (99993, whole), (99994, whole), (99995, [-5])))
+
+    def test_many_declarations(self):
+        t = text("const A=f(12345678,2345);" * 4000)
+        for i in (0, 2000, 3999):
+            at = 25 * i
+            self.right_at(t, ((at, [0, 0, at, 25, 0]), (at + 8, [0, 7, at + 8, 16, 1]), (at + 10, [0, 8, at + 10, 8, 2]),
+                              (at + 19, [0, 8, at + 19, 4, 2]), (at + 24, [0, 0, at, 25, 0])))
+        self.right_at(t, ((LENGTH, [-5]), (4294967295, [-5])))
+
+    def test_blanks_and_notes(self):
+        t = text("const A=1//" + "x" * (LENGTH - 15) + "\n+2;")
+        self.right_at(t, ((8, [0, 8, 8, 1, 2]), (9, [0, 5, 8, LENGTH - 9, 1]), (50000, [0, 5, 8, LENGTH - 9, 1]),
+                          (LENGTH - 4, [0, 5, 8, LENGTH - 9, 1]), (LENGTH - 2, [0, 8, LENGTH - 2, 1, 2])))
+        t = text("//" + "x" * (LENGTH - 2))
+        self.right_at(t, ((0, [-5]), (50000, [-5]), (LENGTH - 1, [-5])))
+
+    def test_wrong_at_the_end(self):
+        self.right_at(text("const A=1;" + " " * 99989 + "$"), ((0, [-2]), (8, [-2]), (50, [-2]), (LENGTH, [-2])))
+
+
+class LongForAllCalls(unittest.TestCase):
+    """What holds of every long program's text, of each call."""
+
+    TEXTS = (
+        "const A=0" + "-(1-2)" * 16000 + ";", "const A=0" + "+(a?b:c+d)" * 9000 + ";",
+        "table A:u8=[" + ",".join(["-(7)", "0xFF", "f(a,b)[c]"] * 4000) + "];",
+        "fn A(a)=sum i<(3):" + "*".join(["(a+b)", "a@(1)", "~(-c)"] * 5000) + ";",
+        ("node A(x:u8/(1+2))->(y:u8[3]){" + "state s:u8=(1);" * 100 + "let a=(x)[0];y[0]=(a);" * 100 + "}") * 20,
+        ("graph A(x:u8 at 1)->(y:u8 at(2)/3){" + "a,b=f(x,y);y=delay(2)((0))(x);y=a;" * 85 + "}") * 30,
+        ("const A=" + "(" * 42 + "1" + ")" * 42 + ";") * 1000, ("const A=" + "~" * 126 + "1;") * 700,
+    )
+
+    def test_each(self):
+        for words in self.TEXTS:
+            t = filled(words)
+            self.assertEqual(len(t), LENGTH)
+            before = list(t)
+            many = judge(t)[0]
+            form = write(t)[1:]
+            self.assertGreater(many, 0, words[:40])
+            self.assertEqual(judge(form), [many])
+            self.assertEqual(same(t, form), [1])
+            self.assertEqual(find(t, text("A")), [0])
+            length = len(words) // many
+            name = words.index("A")
+            what = ("const", "table", "fn", "node", "graph").index(words.split()[0])
+            first = (many - 1) * length
+            self.assertEqual(decl(many - 1, t), [0, what, first, length, first + name, 1])
+            self.assertEqual(decl(many, t), [-4])
+            self.assertEqual(part(first, t), [0, 0, first, length, 0])
+            self.assertEqual(part(first + length - 1, t), [0, 0, first, length, 0])
+            self.assertEqual(part(len(words), t), [-5])
+            self.assertEqual(tokens(t)[0], len(words_of(words)))
+            self.assertEqual(len(classes(t)), LENGTH + 1)
+            self.assertEqual(t, before)
 
 
 if __name__ == "__main__":

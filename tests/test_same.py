@@ -4,6 +4,7 @@ import unittest
 
 from rilltexts.programs import same
 from rilltexts.programs import write
+from tests.helper import in_hexadecimal
 from tests.helper import slow_tree
 from tests.helper import spaced
 from tests.helper import text
@@ -99,7 +100,7 @@ class Same(unittest.TestCase):
 
     def test_blanks_notes_and_hexadecimal(self):
         words = words_of(PROGRAM)
-        hexadecimal = [f"0x{int(word):X}" if word.isdigit() else word for word in words]
+        hexadecimal = in_hexadecimal(words)
         for one in (tight(words), " ".join(words), "\n".join(words), " // n\n".join(words), tight(hexadecimal),
                     "// n" + PROGRAM.replace("const", "\nconst") + "// n", PROGRAM.replace("\n", "// a\n")):
             self.assertEqual(same(text(PROGRAM), text(one)), [1], one)
